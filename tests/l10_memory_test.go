@@ -16,17 +16,23 @@ func roomyFetch(f impl.Fetch) impl.Fetch {
 	}
 }
 
-// oneListFetch: chunks whose Bytes are pieces of one list, which an answer may not go on sharing.
-func oneListFetch() impl.Fetch {
-	f := fetchOf(4, 3, 6)
+// oneListChunks: the same chunks, with Bytes that are pieces of one list, which an answer may not go on sharing.
+func oneListChunks(list []impl.Chunk) []impl.Chunk {
 	var all []byte
-	for _, c := range f.Chunks {
+	for _, c := range list {
 		all = append(all, c.Bytes...)
 	}
-	for i, c := range f.Chunks {
-		f.Chunks[i].Bytes = all[:len(c.Bytes)]
+	out := slices.Clone(list)
+	for i, c := range list {
+		out[i].Bytes = all[:len(c.Bytes)]
 		all = all[len(c.Bytes):]
 	}
+	return out
+}
+
+func oneListFetch() impl.Fetch {
+	f := fetchOf(4, 3, 6)
+	f.Chunks = oneListChunks(f.Chunks)
 	return f
 }
 
